@@ -1,0 +1,1 @@
+"""Ways through gardens of hedges: the calls stand in hedgeways.gardens."""

@@ -1,0 +1,188 @@
+"""Gardens of hedges, told from their drawings: rooms, rings and islands."""
+
+LINE_END = 10
+BLANK = 32
+CORNER = 43
+LEVEL_HEDGE = 45
+UPRIGHT_HEDGE = 124
+
+MOST_SQUARES = 10
+MOST_BYTES = 1024
+
+TOLD = 0
+TOO_LONG = -2
+NO_SUCH_SQUARE = -4
+AT_FAULT = -6
+
+
+def rooms(garden):
+    """0, how many rooms, rings and islands; or a refusal."""
+    refused = refusal(garden)
+    if refused != TOLD:
+        return [refused]
+    wide = width_of(garden)
+    high = height_of(garden, wide)
+    passages = passages_of(garden, wide, high)
+    room_count = count_parts(least_joined(wide * high, passages))
+    rings = len(passages) + room_count - wide * high
+    return [TOLD, room_count, rings, count_islands(garden, wide, high)]
+
+
+def room(s, garden):
+    """0, the room of square s; or a refusal."""
+    refused = refusal(garden)
+    if refused != TOLD:
+        return [refused]
+    wide = width_of(garden)
+    high = height_of(garden, wide)
+    if s >= wide * high:
+        return [NO_SUCH_SQUARE]
+    least = least_joined(wide * high, passages_of(garden, wide, high))
+    # Rooms are numbered by their least squares: those that begin ahead of this one's come first.
+    return [TOLD, count_parts_below(least, least[s])]
+
+
+def refusal(garden):
+    """The refusal that the drawing brings on every call, or 0 if there's none."""
+    if len(garden) > MOST_BYTES:
+        return TOO_LONG
+    if not is_drawing(garden):
+        return AT_FAULT
+    return TOLD
+
+
+def is_drawing(garden):
+    """Whether the bytes are the whole drawing of a garden."""
+    wide = width_of(garden)
+    if wide == 0:
+        return False
+    high = height_of(garden, wide)
+    if high == 0:
+        return False
+    return all_signs_fit(garden, wide, high)
+
+
+def width_of(garden):
+    """How many squares wide the garden is, by where its first line ends; 0 if no garden's line ends so."""
+    for wide in range(1, MOST_SQUARES + 1):
+        end = 2 * wide + 1
+        if len(garden) > end and garden[end] == LINE_END:
+            return wide
+    return 0
+
+
+def height_of(garden, wide):
+    """How many squares high the garden is, by how many bytes there are; 0 if no garden has so many."""
+    for high in range(1, MOST_SQUARES + 1):
+        if len(garden) == (2 * high + 1) * (2 * wide + 2):
+            return high
+    return 0
+
+
+def sign_at(garden, wide, column, line):
+    """The byte in a column of a line of the drawing."""
+    return garden[line * (2 * wide + 2) + column]
+
+
+def all_signs_fit(garden, wide, high):
+    """Whether each byte is one that may stand at its place."""
+    for line in range(2 * high + 1):
+        for column in range(2 * wide + 2):
+            if sign_at(garden, wide, column, line) not in fitting_signs(wide, high, column, line):
+                return False
+    return True
+
+
+def fitting_signs(wide, high, column, line):
+    """The signs that may stand in a column of a line, the line's end among the columns."""
+    if column == 2 * wide + 1:
+        return (LINE_END,)
+    if line % 2 == 0 and column % 2 == 0:
+        return (CORNER,)
+    if line % 2 == 1 and column % 2 == 1:
+        return (BLANK,)
+    if line % 2 == 0:
+        return side_signs(LEVEL_HEDGE, line, 2 * high)
+    return side_signs(UPRIGHT_HEDGE, column, 2 * wide)
+
+
+def side_signs(hedge, place, last):
+    """The signs that may stand at a side of a square: on the border nothing but a hedge."""
+    if place == 0 or place == last:
+        return (hedge,)
+    return (hedge, BLANK)
+
+
+def is_upright_passage(garden, wide, x, y):
+    """Whether there's a passage between squares (x, y) and (x + 1, y)."""
+    return sign_at(garden, wide, 2 * x + 2, 2 * y + 1) == BLANK
+
+
+def is_level_passage(garden, wide, x, y):
+    """Whether there's a passage between squares (x, y) and (x, y + 1)."""
+    return sign_at(garden, wide, 2 * x + 1, 2 * y + 2) == BLANK
+
+
+def passages_of(garden, wide, high):
+    """The pairs of squares with a passage between them, in the order of the inner sides."""
+    pairs = []
+    for y in range(high):
+        for x in range(wide - 1):
+            if is_upright_passage(garden, wide, x, y):
+                pairs.append((y * wide + x, y * wide + x + 1))
+    for y in range(high - 1):
+        for x in range(wide):
+            if is_level_passage(garden, wide, x, y):
+                pairs.append((y * wide + x, (y + 1) * wide + x))
+    return pairs
+
+
+def hedges_of(garden, wide, high):
+    """The pairs of corners with a hedge between them, in the order of the inner sides."""
+    pairs = []
+    for y in range(high):
+        for x in range(wide - 1):
+            if not is_upright_passage(garden, wide, x, y):
+                pairs.append((corner_at(wide, high, x + 1, y), corner_at(wide, high, x + 1, y + 1)))
+    for y in range(high - 1):
+        for x in range(wide):
+            if not is_level_passage(garden, wide, x, y):
+                pairs.append((corner_at(wide, high, x, y + 1), corner_at(wide, high, x + 1, y + 1)))
+    return pairs
+
+
+def corner_at(wide, high, x, y):
+    """The number of the corner to the upper left of square (x, y): 0 for all on the border together."""
+    if x == 0 or x == wide or y == 0 or y == high:
+        return 0
+    return 1 + (y - 1) * (wide - 1) + x - 1
+
+
+def count_islands(garden, wide, high):
+    """How many parts the corners fall into by hedges, without the border's one."""
+    corners = 1 + (wide - 1) * (high - 1)
+    return count_parts(least_joined(corners, hedges_of(garden, wide, high))) - 1
+
+
+def least_joined(count, pairs):
+    """For each number below count the least one that the pairs, one behind another, join it to."""
+    least = list(range(count))
+    for pair in pairs:
+        kept = min(least[pair[0]], least[pair[1]])
+        dropped = max(least[pair[0]], least[pair[1]])
+        least = [kept if part == dropped else part for part in least]
+    return least
+
+
+def count_parts(least):
+    """How many parts there are."""
+    return count_parts_below(least, len(least))
+
+
+def count_parts_below(least, end):
+    """How many parts have their least number below end."""
+    found = 0
+    for number in range(end):
+        if least[number] == number:
+            found = found + 1
+    return found

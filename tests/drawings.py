@@ -1,0 +1,124 @@
+"""What the tests share: drawings made from inner sides, and what the document says of them.
+
+Nothing here is taken from the package: every count is made anew from the document's words.
+"""
+
+import re
+
+
+def drawn(*lines):
+    """The bytes of a drawing that is written out line by line."""
+    return [ord(sign) for line in lines for sign in line + "\n"]
+
+
+def side_count(wide, high):
+    return (wide - 1) * high + wide * (high - 1)
+
+
+def sides(wide, high):
+    """The two squares at each inner side, in the order in which inner sides are numbered."""
+    upright = [(y * wide + x, y * wide + x + 1) for y in range(high) for x in range(wide - 1)]
+    level = [(y * wide + x, y * wide + x + wide) for y in range(high - 1) for x in range(wide)]
+    return upright + level
+
+
+def draw(wide, high, hedges):
+    """The drawing of a garden with hedges at the inner sides with these numbers."""
+    canvas = [[" "] * (2 * wide + 1) for line in range(2 * high + 1)]
+    for y in range(high + 1):
+        for x in range(wide + 1):
+            canvas[2 * y][2 * x] = "+"
+    for x in range(wide):
+        canvas[0][2 * x + 1] = canvas[2 * high][2 * x + 1] = "-"
+    for y in range(high):
+        canvas[2 * y + 1][0] = canvas[2 * y + 1][2 * wide] = "|"
+    for number, (one, other) in enumerate(sides(wide, high)):
+        if number in hedges:
+            upright = number < (wide - 1) * high
+            line = one // wide + other // wide + 1
+            column = one % wide + other % wide + 1
+            canvas[line][column] = "|" if upright else "-"
+    return drawn(*["".join(line) for line in canvas])
+
+
+def all_gardens(wide, high):
+    """Every choice of hedges for a garden of this size."""
+    count = side_count(wide, high)
+    for choice in range(2 ** count):
+        yield frozenset(k for k in range(count) if choice >> k & 1)
+
+
+def scattered(wide, high, seed, share):
+    """Hedges at about share of 8 inner sides, the same ones for the same seed."""
+    state = seed * 7919 + wide * 104729 + high * 1299709 + 1
+    hedges = []
+    for number in range(side_count(wide, high)):
+        state = (state * 1103515245 + 12345) % 2 ** 31
+        if (state >> 16) % 8 < share:
+            hedges.append(number)
+    return frozenset(hedges)
+
+
+def snake_hedges():
+    """10 by 10 squares on one single way through all of them, row by row to and fro."""
+    numbers = range(90, 180)
+    return frozenset(n for n in numbers if (n - 90) % 10 != (9 if (n - 90) // 10 % 2 == 0 else 0))
+
+
+def rooms_of_squares(wide, high, hedges):
+    """The room of each square: what ways join, numbered as their least squares come."""
+    beside = {square: [] for square in range(wide * high)}
+    for number, (one, other) in enumerate(sides(wide, high)):
+        if number not in hedges:
+            beside[one].append(other)
+            beside[other].append(one)
+    found = {}
+    rooms = 0
+    for first in range(wide * high):
+        if first in found:
+            continue
+        found[first] = rooms
+        waiting = [first]
+        while waiting:
+            for square in beside[waiting.pop()]:
+                if square not in found:
+                    found[square] = rooms
+                    waiting.append(square)
+        rooms += 1
+    return [found[square] for square in range(wide * high)]
+
+
+def islands_of_drawing(garden):
+    """How many patches the signs that aren't blank make, without the one with the border in it."""
+    lines = bytes(garden).decode("ascii").splitlines()
+    left = {(x, y) for y, line in enumerate(lines) for x, sign in enumerate(line) if sign != " "}
+    patches = 0
+    while left:
+        waiting = [left.pop()]
+        patches += 1
+        while waiting:
+            x, y = waiting.pop()
+            for place in ((x + 1, y), (x - 1, y), (x, y + 1), (x, y - 1)):
+                if place in left:
+                    left.remove(place)
+                    waiting.append(place)
+    return patches - 1
+
+
+def counts(wide, high, hedges):
+    """Rooms, rings, islands."""
+    rooms = max(rooms_of_squares(wide, high, hedges)) + 1
+    passages = side_count(wide, high) - len(hedges)
+    return [rooms, passages + rooms - wide * high, islands_of_drawing(draw(wide, high, hedges))]
+
+
+def is_whole(garden):
+    """Whether the bytes are a drawing, by a pattern for each width."""
+    text = bytes(garden).decode("latin-1")
+    for wide in range(1, 11):
+        border = r"\+(-\+){%d}\n" % wide
+        squares = r"\| ([ |] ){%d}\|\n" % (wide - 1)
+        level = r"\+([ -]\+){%d}\n" % wide
+        if re.fullmatch(border + "(" + squares + level + "){0,9}" + squares + border, text):
+            return True
+    return False
