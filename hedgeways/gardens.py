@@ -1,4 +1,4 @@
-"""Gardens of hedges, told from their drawings: rooms, rings and islands."""
+"""Gardens of hedges, told from their drawings: rooms, rings and islands, and how far it is."""
 
 LINE_END = 10
 BLANK = 32
@@ -9,10 +9,16 @@ UPRIGHT_HEDGE = 124
 MOST_SQUARES = 10
 MOST_BYTES = 1024
 
+# One step through each side of a square, as (x, y): upper, right, lower, left.
+SIDES = ((0, -1), (1, 0), (0, 1), (-1, 0))
+
 TOLD = 0
 TOO_LONG = -2
 NO_SUCH_SQUARE = -4
+NO_WAY = -5
 AT_FAULT = -6
+
+UNREACHED = -1
 
 
 def rooms(garden):
@@ -24,7 +30,7 @@ def rooms(garden):
     high = height_of(garden, wide)
     passages = passages_of(garden, wide, high)
     room_count = count_parts(least_joined(wide * high, passages))
-    rings = len(passages) + room_count - wide * high
+    rings = count_rings(wide * high, passages, room_count)
     return [TOLD, room_count, rings, count_islands(garden, wide, high)]
 
 
@@ -40,6 +46,33 @@ def room(s, garden):
     least = least_joined(wide * high, passages_of(garden, wide, high))
     # Rooms are numbered by their least squares: those that begin ahead of this one's come first.
     return [TOLD, count_parts_below(least, least[s])]
+
+
+def perfect(garden):
+    """0, 1 if the garden is perfect, else 0; or a refusal."""
+    refused = refusal(garden)
+    if refused != TOLD:
+        return [refused]
+    wide = width_of(garden)
+    high = height_of(garden, wide)
+    passages = passages_of(garden, wide, high)
+    room_count = count_parts(least_joined(wide * high, passages))
+    rings = count_rings(wide * high, passages, room_count)
+    return [TOLD, 1 if room_count == 1 and rings == 0 else 0]
+
+
+def far(s, u, garden):
+    """0, how far it is from square s to square u; or a refusal."""
+    refused = refusal(garden)
+    if refused != TOLD:
+        return [refused]
+    beside = squares_beside(garden)
+    if max(s, u) >= len(beside):
+        return [NO_SUCH_SQUARE]
+    steps = steps_from(s, beside)
+    if steps[u] == UNREACHED:
+        return [NO_WAY]
+    return [TOLD, steps[u]]
 
 
 def refusal(garden):
@@ -137,6 +170,11 @@ def passages_of(garden, wide, high):
     return pairs
 
 
+def count_rings(squares, passages, room_count):
+    """How many passages are more than it takes to hang the rooms together."""
+    return len(passages) + room_count - squares
+
+
 def hedges_of(garden, wide, high):
     """The pairs of corners with a hedge between them, in the order of the inner sides."""
     pairs = []
@@ -186,3 +224,38 @@ def count_parts_below(least, end):
         if least[number] == number:
             found = found + 1
     return found
+
+
+def squares_beside(garden):
+    """For each square those that a passage joins it to, in the order of its sides."""
+    wide = width_of(garden)
+    high = height_of(garden, wide)
+    return [through_sides(garden, wide, square) for square in range(wide * high)]
+
+
+def through_sides(garden, wide, square):
+    """The squares that a passage joins this one to, in the order of its sides."""
+    x = square % wide
+    y = square // wide
+    found = []
+    for side in SIDES:
+        # The border is drawn as a hedge, so no step leads out of the garden.
+        if sign_at(garden, wide, 2 * x + 1 + side[0], 2 * y + 1 + side[1]) == BLANK:
+            found.append((y + side[1]) * wide + x + side[0])
+    return found
+
+
+def steps_from(start, beside):
+    """For each square the fewest steps from start to it, or that it isn't reached."""
+    steps = [UNREACHED for square in beside]
+    steps[start] = 0
+    outermost = [start]
+    while len(outermost) > 0:
+        further = []
+        for square in outermost:
+            for other in beside[square]:
+                if steps[other] == UNREACHED:
+                    steps[other] = steps[square] + 1
+                    further.append(other)
+        outermost = further
+    return steps

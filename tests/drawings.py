@@ -5,6 +5,9 @@ Nothing here is taken from the package: every count is made anew from the docume
 
 import re
 
+SMALL_SIZES = ((1, 1), (1, 2), (2, 1), (1, 6), (6, 1), (2, 2), (3, 2), (2, 3), (4, 2), (2, 4), (3, 3))
+ALL_SIZES = tuple((wide, high) for wide in range(1, 11) for high in range(1, 11))
+
 
 def drawn(*lines):
     """The bytes of a drawing that is written out line by line."""
@@ -65,13 +68,76 @@ def snake_hedges():
     return frozenset(n for n in numbers if (n - 90) % 10 != (9 if (n - 90) // 10 % 2 == 0 else 0))
 
 
-def rooms_of_squares(wide, high, hedges):
-    """The room of each square: what ways join, numbered as their least squares come."""
+def shuffled_sides(wide, high, seed):
+    """The numbers of all inner sides, in an order that is the same for the same seed."""
+    state = seed * 7919 + wide * 104729 + high * 1299709 + 1
+    keyed = []
+    for number in range(side_count(wide, high)):
+        state = (state * 1103515245 + 12345) % 2 ** 31
+        keyed.append((state >> 8, number))
+    return [number for key, number in sorted(keyed)]
+
+
+def grown(wide, high, seed):
+    """The hedges of a perfect garden: a side is a passage if it joins what wasn't joined before."""
+    pairs = sides(wide, high)
+    part = list(range(wide * high))
+    hedges = []
+    for number in shuffled_sides(wide, high, seed):
+        one, other = (part[square] for square in pairs[number])
+        if one == other:
+            hedges.append(number)
+        part = [one if label == other else label for label in part]
+    return frozenset(hedges)
+
+
+def squares_beside(wide, high, hedges):
+    """The squares that a passage joins each square to, rising."""
     beside = {square: [] for square in range(wide * high)}
     for number, (one, other) in enumerate(sides(wide, high)):
         if number not in hedges:
             beside[one].append(other)
             beside[other].append(one)
+    return {square: sorted(others) for square, others in beside.items()}
+
+
+def has_just_one_way(wide, high, hedges):
+    """Whether just one way that comes to no square twice leads between any two squares."""
+    beside = squares_beside(wide, high, hedges)
+    for first in range(wide * high):
+        ends = set()
+        waiting = [(first,)]
+        while waiting:
+            way = waiting.pop()
+            if way[-1] in ends:
+                return False
+            ends.add(way[-1])
+            waiting += [way + (square,) for square in beside[way[-1]] if square not in way]
+        if len(ends) < wide * high:
+            return False
+    return True
+
+
+def fewest_steps(wide, high, hedges):
+    """For each square, by the squares that ways from it end at: after how few steps one ends there."""
+    beside = squares_beside(wide, high, hedges)
+    table = []
+    for first in range(wide * high):
+        fewest = {}
+        ends = {first}
+        for steps in range(wide * high):
+            for square in ends:
+                fewest.setdefault(square, steps)
+            ends = {other for square in ends for other in beside[square]}
+            if ends <= set(fewest):
+                break
+        table.append(fewest)
+    return table
+
+
+def rooms_of_squares(wide, high, hedges):
+    """The room of each square: what ways join, numbered as their least squares come."""
+    beside = squares_beside(wide, high, hedges)
     found = {}
     rooms = 0
     for first in range(wide * high):

@@ -10,7 +10,7 @@ import unittest
 from unittest import mock
 
 import hedgeways.gardens
-from hedgeways.gardens import room, rooms
+from hedgeways.gardens import far, perfect, room, rooms
 from tests.drawings import draw, scattered, snake_hedges
 
 PACKAGE = pathlib.Path(hedgeways.gardens.__file__).resolve().parent
@@ -29,8 +29,14 @@ GARDENS = (
     [0] * 1100,
 )
 
-CALLS = [(rooms, (garden,)) for garden in GARDENS]
-CALLS += [(room, (s, garden)) for garden in GARDENS for s in (0, 5, 100, 4294967295)]
+NUMBERS = (0, 5, 8, 100, 4294967295)
+
+# How many numbers are told behind the 0.
+TOLD = {rooms: 3, room: 1, perfect: 1, far: 1}
+
+CALLS = [(call, (garden,)) for garden in GARDENS for call in (rooms, perfect)]
+CALLS += [(room, (s, garden)) for garden in GARDENS for s in NUMBERS]
+CALLS += [(far, (s, u, garden)) for garden in GARDENS for s in NUMBERS for u in NUMBERS]
 
 
 class Watched(list):
@@ -58,9 +64,13 @@ class Interface(unittest.TestCase):
     def test_names_and_arguments(self):
         self.assertEqual(list(inspect.signature(rooms).parameters), ["garden"])
         self.assertEqual(list(inspect.signature(room).parameters), ["s", "garden"])
+        self.assertEqual(list(inspect.signature(perfect).parameters), ["garden"])
+        self.assertEqual(list(inspect.signature(far).parameters), ["s", "u", "garden"])
         garden = draw(2, 1, (0,))
         self.assertEqual(rooms(garden=garden), [0, 2, 0, 0])
         self.assertEqual(room(s=1, garden=garden), [0, 1])
+        self.assertEqual(perfect(garden=garden), [0, 0])
+        self.assertEqual(far(s=1, u=0, garden=garden), [-5])
 
     def test_answers_are_lists_of_whole_numbers(self):
         for answer in answers():
@@ -70,8 +80,7 @@ class Interface(unittest.TestCase):
 
     def test_how_many_numbers_are_answered(self):
         for (call, handed), answer in zip(CALLS, answers()):
-            told = 4 if call is rooms else 2
-            self.assertEqual(len(answer), 1 if answer[0] < 0 else told)
+            self.assertEqual(len(answer), 1 if answer[0] < 0 else 1 + TOLD[call])
 
     def test_nothing_handed_in_is_changed(self):
         for call, handed in CALLS:
@@ -100,10 +109,13 @@ class Interface(unittest.TestCase):
     def test_a_list_that_is_changed_between_calls_is_read_anew(self):
         garden = draw(2, 1, ())
         self.assertEqual((rooms(garden), room(1, garden)), ([0, 1, 0, 0], [0, 0]))
+        self.assertEqual((perfect(garden), far(0, 1, garden)), ([0, 1], [0, 1]))
         garden[garden.index(124) + 2] = 124
         self.assertEqual((rooms(garden), room(1, garden)), ([0, 2, 0, 0], [0, 1]))
+        self.assertEqual((perfect(garden), far(0, 1, garden)), ([0, 0], [-5]))
         garden.pop()
         self.assertEqual((rooms(garden), room(1, garden)), ([-6], [-6]))
+        self.assertEqual((perfect(garden), far(0, 1, garden)), ([-6], [-6]))
 
     def test_nothing_is_printed_read_or_imported(self):
         refuse = mock.Mock(side_effect=AssertionError("not asked for"))

@@ -2,7 +2,7 @@
 
 import unittest
 
-from hedgeways.gardens import room, rooms
+from hedgeways.gardens import far, perfect, room, rooms
 from tests.drawings import counts, draw, drawn, is_whole, scattered, side_count
 
 GARDEN = drawn(
@@ -16,6 +16,10 @@ GARDEN = drawn(
 
 GREATEST_NUMBER = 4294967295
 LINE = 8
+
+# Each call with squares that every garden has.
+EVERY_CALL = ((rooms, ()), (room, (0,)), (perfect, ()), (far, (0, 0)))
+PAIR_CALLS = (far,)
 
 
 def with_byte(garden, place, byte):
@@ -35,12 +39,14 @@ def by_the_lines(wide, high):
 
 class AtFault(unittest.TestCase):
     def refused(self, garden):
-        self.assertEqual(rooms(garden), [-6], bytes(garden))
-        self.assertEqual(room(0, garden), [-6], bytes(garden))
+        for call, squares in EVERY_CALL:
+            self.assertEqual(call(*squares, garden), [-6], (call, bytes(garden)))
 
     def told(self, garden):
-        self.assertEqual(rooms(garden)[0], 0, bytes(garden))
+        for call, squares in EVERY_CALL:
+            self.assertEqual(call(*squares, garden)[0], 0, (call, bytes(garden)))
         self.assertEqual(room(0, garden), [0, 0], bytes(garden))
+        self.assertEqual(far(0, 0, garden), [0, 0], bytes(garden))
 
     def told_or_refused(self, garden):
         if is_whole(garden):
@@ -74,6 +80,9 @@ class AtFault(unittest.TestCase):
                 self.assertEqual(rooms(cut), [0, 2, 0, 0])
                 self.assertEqual(room(5, cut), [0, 1])
                 self.assertEqual(room(6, cut), [-4])
+                self.assertEqual(perfect(cut), [0, 0])
+                self.assertEqual(far(5, 2, cut), [0, 1])
+                self.assertEqual(far(5, 6, cut), [-4])
             else:
                 self.refused(cut)
 
@@ -194,14 +203,14 @@ class Order(unittest.TestCase):
     def test_bytes_at_the_edge(self):
         for byte in (0, 10, 32, 43, 255):
             for count, answer in ((1023, [-6]), (1024, [-6]), (1025, [-2]), (1100, [-2])):
-                self.assertEqual(rooms([byte] * count), answer)
-                self.assertEqual(room(0, [byte] * count), answer)
+                for call, squares in EVERY_CALL:
+                    self.assertEqual(call(*squares, [byte] * count), answer, call)
 
     def test_too_long_behind_a_whole_drawing(self):
         for count, answer in ((1024, [-6]), (1025, [-2]), (1100, [-2])):
             garden = GARDEN + [10] * (count - len(GARDEN))
-            self.assertEqual(rooms(garden), answer)
-            self.assertEqual(room(0, garden), answer)
+            for call, squares in EVERY_CALL:
+                self.assertEqual(call(*squares, garden), answer, call)
 
     def test_too_long_counts_ahead_of_all(self):
         for s in (9, 100, GREATEST_NUMBER):
@@ -226,6 +235,65 @@ class Order(unittest.TestCase):
                 self.assertEqual(room(wide * high - 1, garden), [0, wide * high - 1])
                 self.assertEqual(room(wide * high, garden), [-4])
                 self.assertEqual(room(GREATEST_NUMBER, garden), [-4])
+
+
+class OrderForTwoSquares(unittest.TestCase):
+    """-2 ahead of -6, -6 ahead of -4, -4 ahead of -5."""
+
+    def answered(self, s, u, garden, answer):
+        for call in PAIR_CALLS:
+            self.assertEqual(call(s, u, garden), answer, (call, s, u, bytes(garden)))
+            self.assertEqual(call(u, s, garden), answer, (call, u, s, bytes(garden)))
+
+    def test_too_long_counts_ahead_of_all(self):
+        for count in (1025, 1100):
+            for garden in ([43] * count, GARDEN + [10] * (count - len(GARDEN))):
+                for s, u in ((0, 0), (0, 8), (0, 9), (9, 9), (9, 10), (GREATEST_NUMBER, 0)):
+                    self.answered(s, u, garden, [-2])
+
+    def test_fault_counts_ahead_of_no_such_square_and_of_no_way(self):
+        for garden in ([], GARDEN[:-1], GARDEN + [10], with_byte(GARDEN, 1, 32), [43] * 1024):
+            for s, u in ((0, 0), (0, 8), (0, 9), (9, 9), (9, 10), (GREATEST_NUMBER, 0)):
+                self.answered(s, u, garden, [-6])
+
+    def test_no_such_square(self):
+        for wrong in (9, 10, 99, 100, 255, 256, 65536, GREATEST_NUMBER - 1, GREATEST_NUMBER):
+            for right in range(9):
+                self.answered(right, wrong, GARDEN, [-4])
+            for other in (9, 10, GREATEST_NUMBER):
+                self.answered(wrong, other, GARDEN, [-4])
+            self.answered(wrong, wrong, GARDEN, [-4])
+
+    def test_no_such_square_where_no_way_would_lead(self):
+        for right in range(9):
+            self.answered(right, 9, draw(3, 3, range(12)), [-4])
+            self.answered(right, GREATEST_NUMBER, draw(3, 3, range(12)), [-4])
+
+    def test_first_number_that_is_no_square_at_every_size(self):
+        for wide in range(1, 11):
+            for high in range(1, 11):
+                count = wide * high
+                garden = draw(wide, high, range(side_count(wide, high)))
+                for s in (0, count - 1, count, GREATEST_NUMBER):
+                    self.answered(s, count, garden, [-4])
+                    self.answered(s, GREATEST_NUMBER, garden, [-4])
+                if count > 1:
+                    self.answered(0, count - 1, garden, [-5])
+
+    def test_no_way_between_two_rooms(self):
+        rooms_in_order = [0, 0, 1, 0, 1, 1, 2, 2, 2]
+        for s in range(9):
+            for u in range(9):
+                if rooms_in_order[s] == rooms_in_order[u]:
+                    for call in PAIR_CALLS:
+                        self.assertEqual(call(s, u, GARDEN)[0], 0)
+                else:
+                    self.answered(s, u, GARDEN, [-5])
+
+    def test_no_way_out_of_a_closed_ring(self):
+        ring = drawn("+-+-+-+", "|     |", "+ +-+ +", "| | | |", "+ +-+ +", "|     |", "+-+-+-+")
+        for s in (0, 1, 2, 3, 5, 6, 7, 8):
+            self.answered(s, 4, ring, [-5])
 
 
 if __name__ == "__main__":

@@ -3,11 +3,8 @@
 import unittest
 
 from hedgeways.gardens import room, rooms
-from tests.drawings import (all_gardens, counts, draw, drawn, rooms_of_squares, scattered, side_count,
-                            snake_hedges)
-
-SMALL_SIZES = ((1, 1), (1, 2), (2, 1), (1, 6), (6, 1), (2, 2), (3, 2), (2, 3), (4, 2), (2, 4), (3, 3))
-ALL_SIZES = tuple((wide, high) for wide in range(1, 11) for high in range(1, 11))
+from tests.drawings import (ALL_SIZES, SMALL_SIZES, all_gardens, counts, draw, drawn, rooms_of_squares,
+                            scattered, side_count, snake_hedges)
 
 FOUR_ROOMS = drawn(
     "+-+-+-+",
