@@ -1,4 +1,4 @@
-"""Gardens of hedges, told from their drawings: rooms, rings and islands, and how far it is."""
+"""Gardens of hedges, told from their drawings: rooms, rings and islands, ways and dead ends."""
 
 LINE_END = 10
 BLANK = 32
@@ -73,6 +73,30 @@ def far(s, u, garden):
     if steps[u] == UNREACHED:
         return [NO_WAY]
     return [TOLD, steps[u]]
+
+
+def way(s, u, garden):
+    """0, the squares of the first shortest way from square s to square u; or a refusal."""
+    refused = refusal(garden)
+    if refused != TOLD:
+        return [refused]
+    beside = squares_beside(garden)
+    if max(s, u) >= len(beside):
+        return [NO_SUCH_SQUARE]
+    # Counted from where the way ends, so that each step can be seen to lead nearer.
+    steps = steps_from(u, beside)
+    if steps[s] == UNREACHED:
+        return [NO_WAY]
+    return [TOLD] + first_way_down(s, steps, beside)
+
+
+def ends(garden):
+    """0, the dead ends, rising; or a refusal."""
+    refused = refusal(garden)
+    if refused != TOLD:
+        return [refused]
+    beside = squares_beside(garden)
+    return [TOLD] + [square for square in range(len(beside)) if len(beside[square]) == 1]
 
 
 def refusal(garden):
@@ -259,3 +283,17 @@ def steps_from(start, beside):
                     further.append(other)
         outermost = further
     return steps
+
+
+def first_way_down(start, steps, beside):
+    """The squares from start to where no step is left, by the earliest side that leads nearer."""
+    squares = [start]
+    while steps[squares[-1]] > 0:
+        squares.append(first_nearer(squares[-1], steps, beside))
+    return squares
+
+
+def first_nearer(square, steps, beside):
+    """The first square beside this one, by the sides, that has fewer steps left."""
+    nearer = [other for other in beside[square] if steps[other] < steps[square]]
+    return nearer[0]

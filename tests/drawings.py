@@ -135,6 +135,27 @@ def fewest_steps(wide, high, hedges):
     return table
 
 
+def sides_passed(wide, way):
+    """The side of the square, 0 to 3, by which each step of a way leaves it."""
+    numbers = {(0, -1): 0, (1, 0): 1, (0, 1): 2, (-1, 0): 3}
+    return [numbers[other % wide - one % wide, other // wide - one // wide] for one, other in zip(way, way[1:])]
+
+
+def shortest_ways(wide, high, hedges, table, s, u):
+    """All ways from s to u with the fewest steps, which the table of fewest_steps tells."""
+    beside = squares_beside(wide, high, hedges)
+    ways = [[s]]
+    for left in range(table[u][s] - 1, -1, -1):
+        ways = [way + [square] for way in ways for square in beside[way[-1]] if table[u][square] == left]
+    return ways
+
+
+def dead_ends(wide, high, hedges):
+    """The squares that stand at just one inner side without a hedge."""
+    at_passages = [square for number, pair in enumerate(sides(wide, high)) if number not in hedges for square in pair]
+    return [square for square in range(wide * high) if at_passages.count(square) == 1]
+
+
 def rooms_of_squares(wide, high, hedges):
     """The room of each square: what ways join, numbered as their least squares come."""
     beside = squares_beside(wide, high, hedges)

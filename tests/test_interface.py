@@ -10,7 +10,7 @@ import unittest
 from unittest import mock
 
 import hedgeways.gardens
-from hedgeways.gardens import far, perfect, room, rooms
+from hedgeways.gardens import ends, far, perfect, room, rooms, way
 from tests.drawings import draw, scattered, snake_hedges
 
 PACKAGE = pathlib.Path(hedgeways.gardens.__file__).resolve().parent
@@ -31,12 +31,12 @@ GARDENS = (
 
 NUMBERS = (0, 5, 8, 100, 4294967295)
 
-# How many numbers are told behind the 0.
+# How many numbers are told behind the 0, where that is the same for every garden.
 TOLD = {rooms: 3, room: 1, perfect: 1, far: 1}
 
-CALLS = [(call, (garden,)) for garden in GARDENS for call in (rooms, perfect)]
+CALLS = [(call, (garden,)) for garden in GARDENS for call in (rooms, perfect, ends)]
 CALLS += [(room, (s, garden)) for garden in GARDENS for s in NUMBERS]
-CALLS += [(far, (s, u, garden)) for garden in GARDENS for s in NUMBERS for u in NUMBERS]
+CALLS += [(call, (s, u, garden)) for garden in GARDENS for s in NUMBERS for u in NUMBERS for call in (far, way)]
 
 
 class Watched(list):
@@ -66,11 +66,15 @@ class Interface(unittest.TestCase):
         self.assertEqual(list(inspect.signature(room).parameters), ["s", "garden"])
         self.assertEqual(list(inspect.signature(perfect).parameters), ["garden"])
         self.assertEqual(list(inspect.signature(far).parameters), ["s", "u", "garden"])
+        self.assertEqual(list(inspect.signature(way).parameters), ["s", "u", "garden"])
+        self.assertEqual(list(inspect.signature(ends).parameters), ["garden"])
         garden = draw(2, 1, (0,))
         self.assertEqual(rooms(garden=garden), [0, 2, 0, 0])
         self.assertEqual(room(s=1, garden=garden), [0, 1])
         self.assertEqual(perfect(garden=garden), [0, 0])
         self.assertEqual(far(s=1, u=0, garden=garden), [-5])
+        self.assertEqual(ends(garden=garden), [0])
+        self.assertEqual(way(s=1, u=0, garden=draw(2, 1, ())), [0, 1, 0])
 
     def test_answers_are_lists_of_whole_numbers(self):
         for answer in answers():
@@ -80,7 +84,10 @@ class Interface(unittest.TestCase):
 
     def test_how_many_numbers_are_answered(self):
         for (call, handed), answer in zip(CALLS, answers()):
-            self.assertEqual(len(answer), 1 if answer[0] < 0 else 1 + TOLD[call])
+            if answer[0] < 0:
+                self.assertEqual(len(answer), 1)
+            elif call in TOLD:
+                self.assertEqual(len(answer), 1 + TOLD[call])
 
     def test_nothing_handed_in_is_changed(self):
         for call, handed in CALLS:
@@ -110,12 +117,15 @@ class Interface(unittest.TestCase):
         garden = draw(2, 1, ())
         self.assertEqual((rooms(garden), room(1, garden)), ([0, 1, 0, 0], [0, 0]))
         self.assertEqual((perfect(garden), far(0, 1, garden)), ([0, 1], [0, 1]))
+        self.assertEqual((way(0, 1, garden), ends(garden)), ([0, 0, 1], [0, 0, 1]))
         garden[garden.index(124) + 2] = 124
         self.assertEqual((rooms(garden), room(1, garden)), ([0, 2, 0, 0], [0, 1]))
         self.assertEqual((perfect(garden), far(0, 1, garden)), ([0, 0], [-5]))
+        self.assertEqual((way(0, 1, garden), ends(garden)), ([-5], [0]))
         garden.pop()
         self.assertEqual((rooms(garden), room(1, garden)), ([-6], [-6]))
         self.assertEqual((perfect(garden), far(0, 1, garden)), ([-6], [-6]))
+        self.assertEqual((way(0, 1, garden), ends(garden)), ([-6], [-6]))
 
     def test_nothing_is_printed_read_or_imported(self):
         refuse = mock.Mock(side_effect=AssertionError("not asked for"))

@@ -2,7 +2,7 @@
 
 import unittest
 
-from hedgeways.gardens import far, perfect, room, rooms
+from hedgeways.gardens import ends, far, perfect, room, rooms, way
 from tests.drawings import counts, draw, drawn, is_whole, scattered, side_count
 
 GARDEN = drawn(
@@ -18,8 +18,8 @@ GREATEST_NUMBER = 4294967295
 LINE = 8
 
 # Each call with squares that every garden has.
-EVERY_CALL = ((rooms, ()), (room, (0,)), (perfect, ()), (far, (0, 0)))
-PAIR_CALLS = (far,)
+EVERY_CALL = ((rooms, ()), (room, (0,)), (perfect, ()), (far, (0, 0)), (way, (0, 0)), (ends, ()))
+PAIR_CALLS = (far, way)
 
 
 def with_byte(garden, place, byte):
@@ -47,6 +47,7 @@ class AtFault(unittest.TestCase):
             self.assertEqual(call(*squares, garden)[0], 0, (call, bytes(garden)))
         self.assertEqual(room(0, garden), [0, 0], bytes(garden))
         self.assertEqual(far(0, 0, garden), [0, 0], bytes(garden))
+        self.assertEqual(way(0, 0, garden), [0, 0], bytes(garden))
 
     def told_or_refused(self, garden):
         if is_whole(garden):
@@ -83,6 +84,9 @@ class AtFault(unittest.TestCase):
                 self.assertEqual(perfect(cut), [0, 0])
                 self.assertEqual(far(5, 2, cut), [0, 1])
                 self.assertEqual(far(5, 6, cut), [-4])
+                self.assertEqual(way(4, 2, cut), [0, 4, 5, 2])
+                self.assertEqual(way(5, 6, cut), [-4])
+                self.assertEqual(ends(cut), [0, 1, 2, 3, 4])
             else:
                 self.refused(cut)
 
