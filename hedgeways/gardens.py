@@ -99,6 +99,14 @@ def ends(garden):
     return [TOLD] + [square for square in range(len(beside)) if len(beside[square]) == 1]
 
 
+def longest(garden):
+    """0, how far the two squares lie from one another that are farthest apart, and these two; or a refusal."""
+    refused = refusal(garden)
+    if refused != TOLD:
+        return [refused]
+    return [TOLD] + farthest_pair(squares_beside(garden))
+
+
 def refusal(garden):
     """The refusal that the drawing brings on every call, or 0 if there's none."""
     if len(garden) > MOST_BYTES:
@@ -297,3 +305,15 @@ def first_nearer(square, steps, beside):
     """The first square beside this one, by the sides, that has fewer steps left."""
     nearer = [other for other in beside[square] if steps[other] < steps[square]]
     return nearer[0]
+
+
+def farthest_pair(beside):
+    """How far the first of the pairs that are farthest apart is, and its squares, the lesser first."""
+    found = [0, 0, 0]
+    for lesser in range(len(beside)):
+        steps = steps_from(lesser, beside)
+        for other in range(lesser, len(beside)):
+            # The pairs come in their order, so one that is only as far comes too late.
+            if steps[other] > found[0]:
+                found = [steps[other], lesser, other]
+    return found

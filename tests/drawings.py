@@ -44,6 +44,11 @@ def draw(wide, high, hedges):
     return drawn(*["".join(line) for line in canvas])
 
 
+def with_passages(wide, high, joined):
+    """A garden with a passage between the squares of these pairs, and hedges elsewhere."""
+    return draw(wide, high, [number for number, pair in enumerate(sides(wide, high)) if pair not in joined])
+
+
 def all_gardens(wide, high):
     """Every choice of hedges for a garden of this size."""
     count = side_count(wide, high)

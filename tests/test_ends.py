@@ -4,13 +4,7 @@ import unittest
 
 from hedgeways.gardens import ends, perfect
 from tests.drawings import (ALL_SIZES, SMALL_SIZES, all_gardens, dead_ends, draw, drawn, grown, scattered, sides,
-                            snake_hedges)
-
-
-def with_passages(wide, high, joined):
-    """A garden with a passage between the squares of these pairs, and hedges elsewhere."""
-    pairs = sides(wide, high)
-    return draw(wide, high, [number for number, pair in enumerate(pairs) if pair not in joined])
+                            snake_hedges, with_passages)
 
 
 class WrittenOut(unittest.TestCase):

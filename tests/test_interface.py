@@ -2,6 +2,7 @@
 
 import ast
 import contextlib
+import importlib.util
 import inspect
 import io
 import pathlib
@@ -10,7 +11,7 @@ import unittest
 from unittest import mock
 
 import hedgeways.gardens
-from hedgeways.gardens import ends, far, perfect, room, rooms, way
+from hedgeways.gardens import ends, far, longest, perfect, room, rooms, way
 from tests.drawings import draw, scattered, snake_hedges
 
 PACKAGE = pathlib.Path(hedgeways.gardens.__file__).resolve().parent
@@ -32,9 +33,19 @@ GARDENS = (
 NUMBERS = (0, 5, 8, 100, 4294967295)
 
 # How many numbers are told behind the 0, where that is the same for every garden.
-TOLD = {rooms: 3, room: 1, perfect: 1, far: 1}
+TOLD = {rooms: 3, room: 1, perfect: 1, far: 1, longest: 3}
 
-CALLS = [(call, (garden,)) for garden in GARDENS for call in (rooms, perfect, ends)]
+ARGUMENTS = {
+    "rooms": ["garden"],
+    "room": ["s", "garden"],
+    "perfect": ["garden"],
+    "far": ["s", "u", "garden"],
+    "way": ["s", "u", "garden"],
+    "ends": ["garden"],
+    "longest": ["garden"],
+}
+
+CALLS = [(call, (garden,)) for garden in GARDENS for call in (rooms, perfect, ends, longest)]
 CALLS += [(room, (s, garden)) for garden in GARDENS for s in NUMBERS]
 CALLS += [(call, (s, u, garden)) for garden in GARDENS for s in NUMBERS for u in NUMBERS for call in (far, way)]
 
@@ -56,25 +67,42 @@ def depth():
     return found
 
 
+def all_seven(s, u, garden):
+    return [rooms(garden), room(s, garden), perfect(garden), far(s, u, garden), way(s, u, garden), ends(garden),
+            longest(garden)]
+
+
+def first_answer(call, handed):
+    """What is answered by a package that was never asked before."""
+    spec = importlib.util.spec_from_file_location("asked_once", hedgeways.gardens.__file__)
+    module = importlib.util.module_from_spec(spec)
+    spec.loader.exec_module(module)
+    return getattr(module, call.__name__)(*handed)
+
+
 def answers():
     return [call(*handed) for call, handed in CALLS]
 
 
 class Interface(unittest.TestCase):
     def test_names_and_arguments(self):
-        self.assertEqual(list(inspect.signature(rooms).parameters), ["garden"])
-        self.assertEqual(list(inspect.signature(room).parameters), ["s", "garden"])
-        self.assertEqual(list(inspect.signature(perfect).parameters), ["garden"])
-        self.assertEqual(list(inspect.signature(far).parameters), ["s", "u", "garden"])
-        self.assertEqual(list(inspect.signature(way).parameters), ["s", "u", "garden"])
-        self.assertEqual(list(inspect.signature(ends).parameters), ["garden"])
-        garden = draw(2, 1, (0,))
+        for name, arguments in ARGUMENTS.items():
+            call = getattr(hedgeways.gardens, name)
+            parameters = inspect.signature(call).parameters
+            self.assertEqual(list(parameters), arguments, name)
+            for parameter in parameters.values():
+                self.assertIs(parameter.kind, inspect.Parameter.POSITIONAL_OR_KEYWORD, name)
+                self.assertIs(parameter.default, inspect.Parameter.empty, name)
+
+    def test_arguments_by_name(self):
+        garden = draw(3, 1, (0,))
         self.assertEqual(rooms(garden=garden), [0, 2, 0, 0])
         self.assertEqual(room(s=1, garden=garden), [0, 1])
         self.assertEqual(perfect(garden=garden), [0, 0])
-        self.assertEqual(far(s=1, u=0, garden=garden), [-5])
-        self.assertEqual(ends(garden=garden), [0])
-        self.assertEqual(way(s=1, u=0, garden=draw(2, 1, ())), [0, 1, 0])
+        self.assertEqual(far(s=1, u=2, garden=garden), [0, 1])
+        self.assertEqual(way(s=2, u=1, garden=garden), [0, 2, 1])
+        self.assertEqual(ends(garden=garden), [0, 1, 2])
+        self.assertEqual(longest(garden=garden), [0, 1, 1, 2])
 
     def test_answers_are_lists_of_whole_numbers(self):
         for answer in answers():
@@ -106,6 +134,28 @@ class Interface(unittest.TestCase):
         backwards = [call(*handed) for call, handed in reversed(CALLS)]
         self.assertEqual(backwards[::-1], first)
 
+    def test_each_answer_is_as_if_for_the_first_time(self):
+        # Calls of all kinds with several gardens by turns: 389 shares no divisor with how many there are.
+        turns = [CALLS[389 * k % len(CALLS)] for k in range(2 * len(CALLS))]
+        self.assertEqual({call.__name__ for call, handed in turns}, set(ARGUMENTS))
+        told = [call(*handed) for call, handed in turns]
+        for (call, handed), answer in zip(turns, told):
+            self.assertEqual(answer, first_answer(call, handed), (call, handed))
+
+    def test_several_gardens_by_turns(self):
+        row, split, ring = draw(3, 1, ()), draw(3, 1, (1,)), draw(2, 2, ())
+        for turn in range(20):
+            self.assertEqual(all_seven(0, 2, row), [
+                [0, 1, 0, 0], [0, 0], [0, 1], [0, 2], [0, 0, 1, 2], [0, 0, 2], [0, 2, 0, 2]])
+            self.assertEqual(all_seven(0, 2, split), [
+                [0, 2, 0, 0], [0, 0], [0, 0], [-5], [-5], [0, 0, 1], [0, 1, 0, 1]])
+            self.assertEqual(all_seven(3, 0, ring), [
+                [0, 1, 1, 1], [0, 0], [0, 0], [0, 2], [0, 3, 1, 0], [0], [0, 2, 0, 3]])
+            self.assertEqual(all_seven(3, 0, split), [
+                [0, 2, 0, 0], [-4], [0, 0], [-4], [-4], [0, 0, 1], [0, 1, 0, 1]])
+            self.assertEqual(all_seven(3, 0, row[1:]), [[-6]] * 7)
+            self.assertEqual(all_seven(3, 0, row * 50), [[-2]] * 7)
+
     def test_an_answer_that_is_changed_does_not_change_the_next(self):
         first = answers()
         for answer in answers():
@@ -115,17 +165,13 @@ class Interface(unittest.TestCase):
 
     def test_a_list_that_is_changed_between_calls_is_read_anew(self):
         garden = draw(2, 1, ())
-        self.assertEqual((rooms(garden), room(1, garden)), ([0, 1, 0, 0], [0, 0]))
-        self.assertEqual((perfect(garden), far(0, 1, garden)), ([0, 1], [0, 1]))
-        self.assertEqual((way(0, 1, garden), ends(garden)), ([0, 0, 1], [0, 0, 1]))
+        self.assertEqual(all_seven(1, 0, garden),
+                         [[0, 1, 0, 0], [0, 0], [0, 1], [0, 1], [0, 1, 0], [0, 0, 1], [0, 1, 0, 1]])
         garden[garden.index(124) + 2] = 124
-        self.assertEqual((rooms(garden), room(1, garden)), ([0, 2, 0, 0], [0, 1]))
-        self.assertEqual((perfect(garden), far(0, 1, garden)), ([0, 0], [-5]))
-        self.assertEqual((way(0, 1, garden), ends(garden)), ([-5], [0]))
+        self.assertEqual(all_seven(1, 0, garden),
+                         [[0, 2, 0, 0], [0, 1], [0, 0], [-5], [-5], [0], [0, 0, 0, 0]])
         garden.pop()
-        self.assertEqual((rooms(garden), room(1, garden)), ([-6], [-6]))
-        self.assertEqual((perfect(garden), far(0, 1, garden)), ([-6], [-6]))
-        self.assertEqual((way(0, 1, garden), ends(garden)), ([-6], [-6]))
+        self.assertEqual(all_seven(1, 0, garden), [[-6]] * 7)
 
     def test_nothing_is_printed_read_or_imported(self):
         refuse = mock.Mock(side_effect=AssertionError("not asked for"))
@@ -145,6 +191,18 @@ class Interface(unittest.TestCase):
         finally:
             sys.setrecursionlimit(before)
         self.assertEqual(again, expected)
+
+
+class Readme(unittest.TestCase):
+    def test_what_the_examples_answer(self):
+        text = (PACKAGE.parent / "README.md").read_text("utf-8")
+        code = text.split("```python\n")[1].split("```")[0]
+        names = {}
+        exec(code, names)
+        shown = [line.split("#") for line in code.splitlines() if "#" in line]
+        self.assertEqual({call.split("(")[0] for call, answer in shown}, set(ARGUMENTS))
+        for call, answer in shown:
+            self.assertEqual(eval(call, names), ast.literal_eval(answer.strip()), call)
 
 
 class Form(unittest.TestCase):

@@ -2,7 +2,7 @@
 
 import unittest
 
-from hedgeways.gardens import ends, far, perfect, room, rooms, way
+from hedgeways.gardens import ends, far, longest, perfect, room, rooms, way
 from tests.drawings import counts, draw, drawn, is_whole, scattered, side_count
 
 GARDEN = drawn(
@@ -18,7 +18,7 @@ GREATEST_NUMBER = 4294967295
 LINE = 8
 
 # Each call with squares that every garden has.
-EVERY_CALL = ((rooms, ()), (room, (0,)), (perfect, ()), (far, (0, 0)), (way, (0, 0)), (ends, ()))
+EVERY_CALL = ((rooms, ()), (room, (0,)), (perfect, ()), (far, (0, 0)), (way, (0, 0)), (ends, ()), (longest, ()))
 PAIR_CALLS = (far, way)
 
 
@@ -87,6 +87,7 @@ class AtFault(unittest.TestCase):
                 self.assertEqual(way(4, 2, cut), [0, 4, 5, 2])
                 self.assertEqual(way(5, 6, cut), [-4])
                 self.assertEqual(ends(cut), [0, 1, 2, 3, 4])
+                self.assertEqual(longest(cut), [0, 2, 1, 3])
             else:
                 self.refused(cut)
 
